@@ -131,7 +131,7 @@ func rightMakers() map[string]impl.Maker {
 		"a full window":         maker(2, 2, 4, 6, 9),
 		"a full window of many": maker(2, 8, 4, 6, 9),
 		"the greatest number":   maker(1, impl.MaxNum, 5, 6, 7),
-		"Seqs from below 0 on":  maker(1, 1, 3, 4, 5),
+		"Seqs from 0 on":        maker(1, 1, 3, 4),
 		"the least Off":         maker(1, 5, 0, 1),
 		"the greatest Off":      maker(1, 5, 0, impl.MaxNum-1, impl.MaxNum),
 		"the greatest everything": {Row: impl.MaxRows - 1, Who: impl.Clients - 1, Epoch: impl.MaxNum, Last: impl.MaxNum,
@@ -173,6 +173,10 @@ func wrongMakers() map[string]impl.Maker {
 		"no marks, Last MaxNum":    marks(impl.MaxNum),
 		"a mark, Last -1":          marks(-1, impl.Mark{Seq: -1, Off: 3}),
 		"a mark of 0, Last -1":     marks(-1, impl.Mark{Seq: 0, Off: 3}),
+		"a Seq of -1, Last 0":      maker(0, 0, 0, 1),
+		"a Seq of -1, Last 1":      maker(0, 1, 0, 1, 2),
+		"a Seq of -2, Last 0":      maker(0, 0, 0, 1, 2),
+		"Seqs of -2 and -1":        maker(0, -1, 0, 1),
 		"equal Offs":               maker(2, 5, 3, 6, 6),
 		"equal Offs first":         maker(2, 5, 3, 3, 6),
 		"falling Offs":             maker(2, 5, 3, 9, 6),
@@ -220,6 +224,23 @@ func TestMakerOkByWindow(t *testing.T) {
 		for _, window := range []int{math.MinInt, -2, -1, 0, 1, 2, 3, 4, 5, 6, 7, impl.MaxNum, math.MaxInt} {
 			if got, want := impl.MakerOk(m, window), n <= window; got != want {
 				t.Errorf("%d marks, a window of %d: got %v, want %v", n, window, got, want)
+			}
+		}
+	}
+}
+
+// No put has a number below 0: what the window leaves room for, Last does not.
+func TestMakerOkByLast(t *testing.T) {
+	for last := -1; last <= 6; last++ {
+		for n := 1; n <= 9; n++ {
+			var offs []int
+			for i := 0; i < n; i++ {
+				offs = append(offs, 10*i)
+			}
+			for _, window := range []int{n, impl.MaxNum, math.MaxInt} {
+				if got, want := impl.MakerOk(maker(1, last, offs...), window), n <= last+1; got != want {
+					t.Errorf("%d marks up to %d, a window of %d: got %v, want %v", n, last, window, got, want)
+				}
 			}
 		}
 	}
