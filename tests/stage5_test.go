@@ -494,15 +494,32 @@ func TestGroupMark(t *testing.T) {
 	}
 }
 
-// Where there is nobody, a row has no owner: -1, too, marks nothing.
+// Where there is nobody, OwnerOf each row is -1, and so -1 alone marks it.
 func TestGroupMarkWhereNobodyIs(t *testing.T) {
 	g := group(4, nil, 10, 20)
-	for _, who := range append(farNumbers(), -1, 0, 1, 2, 3, impl.Clients) {
-		for row := -1; row <= 2; row++ {
-			if got, done := impl.GroupMark(g, who, 4, row, 50); done || !isZeroGroup(got) {
-				t.Errorf("%d marks row %d: got %v %v", who, row, got, done)
+	for _, who := range append(farNumbers(), -2, -1, 0, 1, 2, 3, impl.Clients) {
+		for _, row := range append(farNumbers(), -2, -1, 0, 1, 2, 3) {
+			for _, gen := range append(farNumbers(), 0, 3, 4, 5) {
+				for _, off := range append(farNumbers(), -1, 0, 9, 10, 11, 19, 20, 21, impl.MaxNum) {
+					may := who == -1 && gen == 4 && (row == 0 && off >= 10 || row == 1 && off >= 20)
+					var want impl.Group
+					if may {
+						want = copyGroup(g)
+						want.Offs[row] = off
+					}
+					if got, done := impl.GroupMark(g, who, gen, row, off); done != may || !sameGroup(got, want) {
+						t.Fatalf("%d marks row %d of gen %d by %d: got %v %v, want %v %v", who, row, gen, off, got, done, want, may)
+					}
+				}
 			}
 		}
+	}
+	wantGroupUntouched(t, "mark of nobody", g, func(g impl.Group) impl.Group {
+		got, _ := impl.GroupMark(g, -1, 4, 1, 50)
+		return got
+	})
+	if got, done := impl.GroupMark(impl.Group{}, -1, 0, 0, 0); done || !isZeroGroup(got) {
+		t.Errorf("no members and no Offs: got %v %v", got, done)
 	}
 }
 
@@ -514,8 +531,11 @@ func TestGroupMarkOfWrongGroups(t *testing.T) {
 				for _, off := range []int{math.MinInt, -1, 0, 8, math.MaxInt} {
 					got, done := impl.GroupMark(g, who, g.Gen, row, off)
 					var want impl.Group
-					inside := len(g.Members) > 0 && row >= 0 && row < len(g.Offs)
-					wantDone := inside && who == g.Members[row%len(g.Members)] && off >= g.Offs[row]
+					owner := -1
+					if len(g.Members) > 0 && row >= 0 {
+						owner = g.Members[row%len(g.Members)]
+					}
+					wantDone := row >= 0 && row < len(g.Offs) && who == owner && off >= g.Offs[row]
 					if wantDone {
 						want = copyGroup(g)
 						want.Offs[row] = off
@@ -648,16 +668,16 @@ func (r *roster) tick(time int) {
 	maps.DeleteFunc(r.beats, func(_ int, beat int) bool { return time-beat > 50 })
 }
 
-// owner counts the members round and round up to row.
-func (r *roster) owner(row int) (int, bool) {
+// owner counts the members round and round up to row; it is -1 of nobody.
+func (r *roster) owner(row int) int {
 	members := slices.Sorted(maps.Keys(r.beats))
 	for at := 0; len(members) > 0; at++ {
 		if at == row {
-			return members[0], true
+			return members[0]
 		}
 		members = append(members[1:], members[0])
 	}
-	return 0, false
+	return -1
 }
 
 // Promise 5, in many turns: whoever comes, goes and marks, a group is as its
@@ -687,8 +707,10 @@ func TestGroupsOfManyTurns(t *testing.T) {
 				r.turned(func() { r.tick(time) })
 			default:
 				gen, row, off := g.Gen-next(8)/7, next(rows), next(30)
-				owner, owned := r.owner(row)
-				may := owned && owner == who && gen == r.gen && off >= r.offs[row]
+				if next(4) == 0 {
+					who = -1
+				}
+				may := r.owner(row) == who && gen == r.gen && off >= r.offs[row]
 				marked, done := impl.GroupMark(g, who, gen, row, off)
 				if done != may {
 					t.Fatalf("%d, turn %d: %d marks row %d of %v by %d: got %v", first, turn, who, row, g, off, done)
