@@ -49,6 +49,8 @@ func scrawl(t reflect.Type) reflect.Value {
 	switch t.Kind() {
 	case reflect.Int:
 		v.SetInt(-777)
+	case reflect.Uint8:
+		v.SetUint(77)
 	case reflect.String:
 		v.SetString("SCRAWL")
 	case reflect.Struct:
