@@ -1,8 +1,12 @@
 package tests
 
 import (
+	"go/ast"
+	"go/parser"
+	"go/token"
 	"maps"
 	"math"
+	"path/filepath"
 	"reflect"
 	"slices"
 	"strings"
@@ -752,7 +756,65 @@ func TestAPlaceIsToldAgain(t *testing.T) {
 	}
 }
 
-// What answers are told by is made once for all keepers: none sees another.
+// namesUsedBy tells, for each function and method of the program, the names that
+// stand in it. Methods of one name are taken as one.
+func namesUsedBy(t *testing.T) map[string][]string {
+	files, err := filepath.Glob("../impl/*.go")
+	if err != nil || len(files) == 0 {
+		t.Fatalf("no program: %v", err)
+	}
+	uses := map[string][]string{}
+	for _, file := range files {
+		parsed, err := parser.ParseFile(token.NewFileSet(), file, nil, 0)
+		if err != nil {
+			t.Fatal(err)
+		}
+		for _, d := range parsed.Decls {
+			if f, ok := d.(*ast.FuncDecl); ok {
+				ast.Inspect(f.Body, func(n ast.Node) bool {
+					if name, ok := n.(*ast.Ident); ok {
+						uses[f.Name.Name] = append(uses[f.Name.Name], name.Name)
+					}
+					return true
+				})
+			}
+		}
+	}
+	return uses
+}
+
+func namesReachedFrom(name string, uses map[string][]string) map[string]int {
+	reached, work := map[string]int{name: 1}, []string{name}
+	for len(work) > 0 {
+		name, work = work[0], work[1:]
+		for _, used := range uses[name] {
+			if reached[used]++; reached[used] == 1 {
+				work = append(work, used)
+			}
+		}
+	}
+	return reached
+}
+
+// Answers are worked out by a function. The map that is made once stands beside
+// it: KeepAll reads it, KeepDo never comes to it.
+func TestAnswersHangOnNothingThatIsKept(t *testing.T) {
+	uses := namesUsedBy(t)
+	do, all := namesReachedFrom("KeepDo", uses), namesReachedFrom("KeepAll", uses)
+	if do["tellerOf"] == 0 {
+		t.Error("KeepDo tells nothing by tellerOf")
+	}
+	for _, kept := range []string{"tellers", "tellersOnce"} {
+		if do[kept] > 0 {
+			t.Errorf("KeepDo comes to %s", kept)
+		}
+		if all[kept] == 0 {
+			t.Errorf("KeepAll does not read %s", kept)
+		}
+	}
+}
+
+// What stands beside is made once for all keepers: none sees another.
 func TestKeepersSideBySide(t *testing.T) {
 	list := manyCmds(99, 2, 200)
 	keeps, answers := make([]impl.Keep, 8), make([][]impl.Answer, 8)
