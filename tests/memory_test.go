@@ -4,6 +4,7 @@ import (
 	"cmp"
 	"reflect"
 	"slices"
+	"sync"
 	"testing"
 )
 
@@ -51,6 +52,8 @@ func scrawl(t reflect.Type) reflect.Value {
 		v.SetInt(-777)
 	case reflect.Uint8:
 		v.SetUint(77)
+	case reflect.Bool:
+		v.SetBool(true)
 	case reflect.String:
 		v.SetString("SCRAWL")
 	case reflect.Struct:
@@ -129,6 +132,33 @@ func wantOwnMemory[T any](t *testing.T, what string, arg T, do func(T) []any) {
 			if overlap([]span{own, other}) {
 				t.Errorf("%s: the answer shares memory with the argument", what)
 			}
+		}
+	}
+}
+
+// wantNothingKept asks what is told of each of list once, and then over and over
+// by callers side by side: they are told what each alone was told.
+func wantNothingKept[T any](t *testing.T, list []T, told func(T) []any) {
+	t.Helper()
+	var first [][]any
+	for _, x := range list {
+		first = append(first, told(x))
+	}
+	alike := make([]bool, 8)
+	var all sync.WaitGroup
+	for i := range alike {
+		all.Go(func() {
+			alike[i] = true
+			for at := range list {
+				at = (at + i) % len(list)
+				alike[i] = alike[i] && reflect.DeepEqual(told(list[at]), first[at])
+			}
+		})
+	}
+	all.Wait()
+	for i, same := range alike {
+		if !same {
+			t.Errorf("%d: told otherwise", i)
 		}
 	}
 }

@@ -7,10 +7,8 @@ import (
 	"go/token"
 	"math"
 	"math/rand"
-	"reflect"
 	"slices"
 	"strconv"
-	"sync"
 	"testing"
 
 	"loop.example/g00393/impl"
@@ -903,27 +901,7 @@ func toldOfHard(h impl.Hard) []any {
 // each alone is told.
 func TestHardsKeepNothing(t *testing.T) {
 	hards := []impl.Hard{impl.HardNew(keepSetup()), someHard(), {}, {Term: -1}, hardOf(5, 1, logOf(4, 3), busyKeep())}
-	var first [][]any
-	for _, h := range hards {
-		first = append(first, toldOfHard(h))
-	}
-	alike := make([]bool, 8)
-	var all sync.WaitGroup
-	for i := range alike {
-		all.Go(func() {
-			alike[i] = true
-			for at := range hards {
-				at = (at + i) % len(hards)
-				alike[i] = alike[i] && reflect.DeepEqual(toldOfHard(hards[at]), first[at])
-			}
-		})
-	}
-	all.Wait()
-	for i, same := range alike {
-		if !same {
-			t.Errorf("%d: told otherwise", i)
-		}
-	}
+	wantNothingKept(t, hards, toldOfHard)
 }
 
 // methodExpressionsIn tells the names of the methods of Hard that stand in
