@@ -449,9 +449,7 @@ func TestRiseOfEachFall(t *testing.T) {
 			if whole < sure {
 				t.Fatalf("%d were sure, %d are there", sure, whole)
 			}
-			if keep%7 < 2 || used == len(fallen.Disk.Bytes) {
-				wantRisen(t, strconv.Itoa(sure)+" sure, keep "+strconv.Itoa(keep), fallen, impl.MaxNodes, w.notes[:whole], used)
-			}
+			wantRisen(t, strconv.Itoa(sure)+" sure, keep "+strconv.Itoa(keep), fallen, impl.MaxNodes, w.notes[:whole], used)
 		}
 	}
 }
