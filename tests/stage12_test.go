@@ -92,6 +92,8 @@ func rightPeers() map[string]impl.Peer {
 		"all vote":         changedPeer(func(n *impl.Peer) { n.Votes = []bool{true, true, true} }),
 		"an empty disk":    changedPeer(func(n *impl.Peer) { n.Disk = impl.Disk{} }),
 		"an empty list":    changedPeer(func(n *impl.Peer) { n.Held = []impl.Rpc{} }),
+		"a message held":   held(somePeer(), rightMessages()["put"], 1),
+		"as many held":     held(somePeer(), rightMessages()["snap"], impl.MaxHeld),
 		"Match above Next": changedPeer(func(n *impl.Peer) { n.Next, n.Match = []int{1, 1, 1}, []int{5, 5, 5} }),
 		"Next at the base": changedPeer(func(n *impl.Peer) { n.Next = []int{2, 2, 2} }),
 		"the longest log":  peerWithHard(hardOf(impl.MaxIndex, 1, longestLog(1), greatKeep(keepSetup()))),
