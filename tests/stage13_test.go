@@ -1128,28 +1128,38 @@ func TestRpcHasItsFields(t *testing.T) {
 	}
 }
 
-// variadicsOf tells the functions and methods of the program whose last
-// parameter is as many of that type as there are.
-func variadicsOf(t *testing.T, of string) []string {
+// functionsOf are the functions and methods of the program.
+func functionsOf(t *testing.T) []*ast.FuncDecl {
 	files, err := filepath.Glob("../impl/*.go")
 	if err != nil || len(files) == 0 {
 		t.Fatalf("no program: %v", err)
 	}
-	var names []string
+	var list []*ast.FuncDecl
 	for _, file := range files {
 		parsed, err := parser.ParseFile(token.NewFileSet(), file, nil, 0)
 		if err != nil {
 			t.Fatal(err)
 		}
 		for _, d := range parsed.Decls {
-			f, ok := d.(*ast.FuncDecl)
-			if !ok || len(f.Type.Params.List) == 0 {
-				continue
+			if f, ok := d.(*ast.FuncDecl); ok {
+				list = append(list, f)
 			}
-			last := f.Type.Params.List[len(f.Type.Params.List)-1]
-			if many, ok := last.Type.(*ast.Ellipsis); ok && namedType(many.Elt) == of {
-				names = append(names, f.Name.Name)
-			}
+		}
+	}
+	return list
+}
+
+// variadicsOf tells the functions and methods of the program whose last
+// parameter is as many of that type as there are.
+func variadicsOf(t *testing.T, of string) []string {
+	var names []string
+	for _, f := range functionsOf(t) {
+		if len(f.Type.Params.List) == 0 {
+			continue
+		}
+		last := f.Type.Params.List[len(f.Type.Params.List)-1]
+		if many, ok := last.Type.(*ast.Ellipsis); ok && namedType(many.Elt) == of {
+			names = append(names, f.Name.Name)
 		}
 	}
 	return names
