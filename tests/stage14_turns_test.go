@@ -371,7 +371,7 @@ func (c *cluster) step(t *testing.T, draw *rand.Rand, cmds []impl.Cmd) {
 func TestWhatIsHeardIsKept(t *testing.T) {
 	draw := rand.New(rand.NewSource(14))
 	seen, terms, done := map[string]int{}, 0, 0
-	for first := range 60 {
+	for first := range 45 {
 		p := impl.Setup{Rows: 1 + first%4, Window: 1 + first%5, Length: 1 + first%8, Keep: first}
 		c := newCluster(p, 1+first%impl.MaxNodes)
 		cmds := manyCmds(uint(first), p.Rows, 60)
@@ -386,7 +386,7 @@ func TestWhatIsHeardIsKept(t *testing.T) {
 		}
 	}
 	for _, what := range []string{"heard 1", "heard 2", "heard 3", "heard 4", "heard 5", "heard 1 ok", "heard 3 ok", "heard 5 ok", "lost", "twice", "ask", "feed", "propose", "cut", "fall"} {
-		if seen[what] < 40 {
+		if seen[what] < 25 {
 			t.Errorf("%s: %d", what, seen[what])
 		}
 	}
@@ -422,7 +422,7 @@ func TestHearingWritesNowhere(t *testing.T) {
 				n := held(rightPeers()[name], rightMessages()["put"], many)
 				n.Role = role
 				for _, r := range messagesTo1() {
-					if i++; i%211 == 0 {
+					if i++; i%401 == 0 {
 						wantOwnMemory(t, name, heardBy{n, r, someSize}, answersOfHearing)
 					}
 				}
