@@ -19,6 +19,9 @@ func remade(v reflect.Value, list func(reflect.Value) reflect.Value) reflect.Val
 		}
 	case reflect.Slice:
 		made.Set(list(v))
+		if made.Type().Elem().Kind() == reflect.Uint8 {
+			break
+		}
 		for i := 0; i < made.Len(); i++ {
 			made.Index(i).Set(remade(made.Index(i), list))
 		}
@@ -126,13 +129,8 @@ func wantOwnMemory[T any](t *testing.T, what string, arg T, do func(T) []any) {
 	}
 	if overlap(slices.Clone(spans)) {
 		t.Errorf("%s: two lists of the answer share memory", what)
-	}
-	for _, own := range spans {
-		for _, other := range spansOf(reflect.ValueOf(arg)) {
-			if overlap([]span{own, other}) {
-				t.Errorf("%s: the answer shares memory with the argument", what)
-			}
-		}
+	} else if overlap(append(spans, spansOf(reflect.ValueOf(arg))...)) {
+		t.Errorf("%s: the answer shares memory with the argument", what)
 	}
 }
 

@@ -29,11 +29,18 @@ const someSize = 3
 // somePeer is a node of someSize in the midst of its work: its log has the
 // numbers 3 to 5 behind base 2; of its disk the first note alone is sure.
 func somePeer() impl.Peer {
+	n := busyPeer()
+	n.Now = fullKeep(keepSetup())
+	return n
+}
+
+// busyPeer is somePeer, but for its Now, which is busyKeep.
+func busyPeer() impl.Peer {
 	w := writtenNotes(notesByHand(someHard()))
 	return impl.Peer{
 		Id: 1, Hard: someHard(), Role: impl.RoLead,
 		Votes: []bool{true, true, false}, Next: []int{4, 6, 1}, Match: []int{3, 5, 0},
-		Commit: 4, Now: fullKeep(keepSetup()), Disk: impl.Disk{Bytes: w.bytes, Sure: w.ends[0]},
+		Commit: 4, Now: busyKeep(), Disk: impl.Disk{Bytes: w.bytes, Sure: w.ends[0]},
 	}
 }
 
